@@ -1,0 +1,1 @@
+"""Signals in single and double floating numbers, told to the bit."""

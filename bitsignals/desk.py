@@ -1,0 +1,38 @@
+"""The calls: each answers a list, a number and then a row, or a refusal alone."""
+
+from bitsignals.arithmetic import OF_ONE, OF_TWO
+from bitsignals.pairs import OF_ONE_PAIR, OF_TWO_PAIRS
+
+DONE = 0
+REFUSED = -2
+
+
+def each(f, op, a, b):
+    if op >= len(OF_TWO):
+        return [REFUSED]
+    step = OF_TWO[op]
+    return [DONE] + [step(f, x, y) for x, y in zip(a, b)]
+
+
+def one(f, op, a):
+    if op >= len(OF_ONE):
+        return [REFUSED]
+    step = OF_ONE[op]
+    return [DONE] + [step(f, x) for x in a]
+
+
+def pair(f, op, a, b):
+    if op >= len(OF_TWO_PAIRS):
+        return [REFUSED]
+    step = OF_TWO_PAIRS[op]
+    answer = [DONE]
+    for i in range(0, len(a), 2):
+        answer.extend(step(f, a[i], a[i + 1], b[i], b[i + 1]))
+    return answer
+
+
+def look(f, op, x):
+    if op >= len(OF_ONE_PAIR):
+        return [REFUSED]
+    step = OF_ONE_PAIR[op]
+    return [DONE] + [step(f, x[i], x[i + 1]) for i in range(0, len(x), 2)]
