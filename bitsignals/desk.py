@@ -1,6 +1,7 @@
 """The calls: each answers a list, a number and then a row, or a refusal alone."""
 
 from bitsignals.arithmetic import OF_ONE, OF_TWO
+from bitsignals.conversions import WAYS_TO_WHOLE, from_whole, narrowed, to_whole, widened
 from bitsignals.pairs import OF_ONE_PAIR, OF_TWO_PAIRS
 
 DONE = 0
@@ -36,3 +37,21 @@ def look(f, op, x):
         return [REFUSED]
     step = OF_ONE_PAIR[op]
     return [DONE] + [step(f, x[i], x[i + 1]) for i in range(0, len(x), 2)]
+
+
+def wide(x):
+    return [DONE] + [widened(a) for a in x]
+
+
+def narrow(x):
+    return [DONE] + [narrowed(a) for a in x]
+
+
+def whole(f, how, x):
+    if how >= WAYS_TO_WHOLE:
+        return [REFUSED]
+    return [DONE] + [to_whole(f, how, a) for a in x]
+
+
+def from_of(f, x):
+    return [DONE] + [from_whole(f, k) for k in x]

@@ -1,0 +1,84 @@
+"""What holds of every call: what is handed in stays, a second call answers as the first, nothing is printed."""
+
+import contextlib
+import copy
+import io
+import sys
+import unittest
+
+from bitsignals import desk
+from tests import hardware
+from tests.test_rows import Untouched
+
+
+def rows(f, length, count=1):
+    """Rows of numbers of all sorts, the same each time."""
+    return [hardware.mixed(f, length, seed) for seed in range(count)]
+
+
+def calls_of(f):
+    """For each call what may be handed in, with f where it takes one; refusals too."""
+    whole_numbers = [0, 1, -1, 16777217, -2147483648, 2147483647]
+    return (
+        [("whole", (f, how) + tuple(rows(f, 40))) for how in (0, 1, 2, 3, 4, 4294967295)]
+        + [("from_of", (f, whole_numbers))]
+    )
+
+
+def calls():
+    yield from [("wide", tuple(rows(0, 40))), ("narrow", tuple(rows(1, 40)))]
+    yield from calls_of(0)
+    yield from calls_of(1)
+
+
+def answer_of(name, given):
+    return getattr(desk, name)(*given)
+
+
+def untouched(given):
+    return tuple(Untouched(part) if isinstance(part, list) else part for part in given)
+
+
+class EveryCallTest(unittest.TestCase):
+    def test_what_is_handed_in_stays(self):
+        for name, given in calls():
+            handed = untouched(given)
+            before = copy.deepcopy([list(part) if isinstance(part, list) else part for part in given])
+            with self.subTest(call=name, given=given[:2]):
+                self.assertEqual(answer_of(name, handed), answer_of(name, given))
+                for part in (handed, given):
+                    after = [list(item) if isinstance(item, list) else item for item in part]
+                    self.assertEqual(after, before)
+
+    def test_a_second_call_answers_as_the_first(self):
+        first = [answer_of(name, given) for name, given in calls()]
+        kept = copy.deepcopy(first)
+        for answer in first:
+            # An answer is the caller's own: what becomes of it doesn't reach the next call.
+            answer.append(7)
+        for (name, given), want in zip(calls(), kept):
+            with self.subTest(call=name, given=given[:2]):
+                self.assertEqual(answer_of(name, given), want)
+
+    def test_answers_are_new_lists_of_whole_numbers(self):
+        for name, given in calls():
+            answer = answer_of(name, given)
+            with self.subTest(call=name, given=given[:2]):
+                self.assertIs(type(answer), list)
+                self.assertEqual({type(number) for number in answer}, {int})
+                self.assertFalse(any(answer is part for part in given))
+                if answer[0] == -2:
+                    self.assertEqual(answer, [-2])
+
+    def test_nothing_is_printed_or_imported(self):
+        modules = set(sys.modules)
+        printed = io.StringIO()
+        with contextlib.redirect_stdout(printed), contextlib.redirect_stderr(printed):
+            for name, given in calls():
+                answer_of(name, given)
+        self.assertEqual(printed.getvalue(), "")
+        self.assertEqual(set(sys.modules), modules)
+
+
+if __name__ == "__main__":
+    unittest.main()
