@@ -1,11 +1,14 @@
 """The calls: each answers a list, a number and then a row, or a refusal alone."""
 
-from bitsignals.arithmetic import OF_ONE, OF_TWO
+from bitsignals.arithmetic import OF_ONE, OF_TWO, multiply
 from bitsignals.conversions import WAYS_TO_WHOLE, from_whole, narrowed, to_whole, widened
 from bitsignals.pairs import OF_ONE_PAIR, OF_TWO_PAIRS
+from bitsignals.sums import greatest_size, sum_of_products
+from bitsignals.windows import WEIGHTS, windowed
 
 DONE = 0
 REFUSED = -2
+LONGEST = 8192
 
 
 def each(f, op, a, b):
@@ -55,3 +58,21 @@ def whole(f, how, x):
 
 def from_of(f, x):
     return [DONE] + [from_whole(f, k) for k in x]
+
+
+def dot(f, a, b):
+    return [DONE, sum_of_products(f, a, b)]
+
+
+def peak(f, x):
+    return list(greatest_size(f, x))
+
+
+def away(f, gain, x):
+    return [DONE] + [multiply(f, a, gain) for a in x]
+
+
+def window(f, kind, x):
+    if kind >= len(WEIGHTS) or not 1 <= len(x) <= LONGEST:
+        return [REFUSED]
+    return [DONE] + windowed(f, kind, x)

@@ -22,6 +22,10 @@ def calls_of(f):
     return (
         [("whole", (f, how) + tuple(rows(f, 40))) for how in (0, 1, 2, 3, 4, 4294967295)]
         + [("from_of", (f, whole_numbers))]
+        + [("dot", (f,) + tuple(rows(f, 39, 2))), ("peak", (f,) + tuple(rows(f, 40)))]
+        + [("away", (f, gain) + tuple(rows(f, 40))) for gain in (hardware.ONE[f], hardware.TOP[f])]
+        + [("window", (f, kind) + tuple(rows(f, 40))) for kind in (0, 1, 2, 3, 4294967295)]
+        + [("window", (f, 0, []))]
     )
 
 
