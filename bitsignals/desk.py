@@ -3,7 +3,9 @@
 from bitsignals.arithmetic import OF_ONE, OF_TWO, multiply
 from bitsignals.conversions import WAYS_TO_WHOLE, from_whole, narrowed, to_whole, widened
 from bitsignals.pairs import OF_ONE_PAIR, OF_TWO_PAIRS
+from bitsignals.spectra import WAYS, from_half_spectrum, half_spectrum, in_pairs, one_after_another, turned
 from bitsignals.sums import greatest_size, sum_of_products
+from bitsignals.turns import multiples_of_part
 from bitsignals.windows import WEIGHTS, windowed
 
 DONE = 0
@@ -76,3 +78,23 @@ def window(f, kind, x):
     if kind >= len(WEIGHTS) or not 1 <= len(x) <= LONGEST:
         return [REFUSED]
     return [DONE] + windowed(f, kind, x)
+
+
+def tone(f, n, k):
+    if not 1 <= n <= LONGEST:
+        return [REFUSED]
+    return [DONE] + one_after_another(multiples_of_part(f, n, k))
+
+
+def turn(f, way, x):
+    if way >= WAYS:
+        return [REFUSED]
+    return [DONE] + one_after_another(turned(f, way, in_pairs(x)))
+
+
+def half(f, x):
+    return [DONE] + one_after_another(half_spectrum(f, x))
+
+
+def unhalf(f, n, x):
+    return [DONE] + from_half_spectrum(f, n, in_pairs(x))

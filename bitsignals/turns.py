@@ -1,7 +1,7 @@
 """The parts of a turn: their cosines and sines, in doubles."""
 
 from bitsignals.arithmetic import add, divide, multiply, subtract
-from bitsignals.conversions import from_whole
+from bitsignals.conversions import from_whole, of_double
 from bitsignals.floats import SIGN_BIT
 
 DOUBLE = 1
@@ -48,6 +48,15 @@ def cosine_and_sine(n, j):
 
 def cosine(n, j):
     return cosine_and_sine(n, j)[0]
+
+
+def multiples_of_part(f, n, k):
+    """The cosine and the sine, of format f, of i k of n parts, i from 0 to n - 1."""
+    row = []
+    for i in range(n):
+        c, s = cosine_and_sine(n, i * k)
+        row.append((of_double(f, c), of_double(f, s)))
+    return row
 
 
 def minus(a):

@@ -79,6 +79,40 @@ def near_one(f, draw, power):
     return sign + ONE[f] + ((power - 8) << fraction) + (draw & ((1 << fraction) - 1))
 
 
+def ordinary(f, count, seed):
+    """Numbers of both signs, near 1 in size, with all their places."""
+    return [near_one(f, bits, (bits >> 7) % 16) for bits in mixed(f, 4 * count, seed)[0::4]]
+
+
+def zeros(f, count, seed):
+    """Zeros of both signs in no order."""
+    return [((bits >> 9) & 1) * SIGN_BIT[f] for bits in mixed(f, 4 * count, seed)[0::4]]
+
+
+def tiny(f, count, seed):
+    """Denormals, zeros and their neighbours, of both signs."""
+    return [(bits & SIGN_BIT[f]) | ((bits >> 8) % (1 << (bits % (26, 55)[f]))) for bits in mixed(f, 4 * count, seed)[0::4]]
+
+
+def great(f, count, seed):
+    """Numbers whose sums may grow beyond the greatest."""
+    fraction = (23, 52)[f]
+    return [(bits & SIGN_BIT[f]) + INFINITY[f] - ((1 + bits % 3) << fraction) + ((bits >> 5) & ((1 << fraction) - 1))
+            for bits in mixed(f, 4 * count, seed)[0::4]]
+
+
+def rarely_endless(f, count, seed):
+    """Ordinary numbers, and an infinity or a NaN among them here and there."""
+    row = ordinary(f, count, seed)
+    for i in range(seed % 5, count, 11):
+        row[i] = (INFINITY[f], INFINITY[f] | SIGN_BIT[f], INFINITY[f] | 5, TOP[f])[(seed + i) % 4]
+    return row
+
+
+# Rows of every sort: each takes f, how many numbers, and a seed.
+SORTS = (ordinary, mixed, zeros, tiny, great, rarely_endless)
+
+
 def to_number(f, bits):
     return struct.unpack(NUMBER_CODES[f], struct.pack(BITS_CODES[f], bits))[0]
 

@@ -16,6 +16,11 @@ def rows(f, length, count=1):
     return [hardware.mixed(f, length, seed) for seed in range(count)]
 
 
+def transformed(f, length):
+    """Rows of finite numbers and rows with others among them: a transform may take them in other ways."""
+    return [hardware.ordinary(f, length, 3), hardware.mixed(f, length, 3)]
+
+
 def calls_of(f):
     """For each call what may be handed in, with f where it takes one; refusals too."""
     whole_numbers = [0, 1, -1, 16777217, -2147483648, 2147483647]
@@ -26,6 +31,10 @@ def calls_of(f):
         + [("away", (f, gain) + tuple(rows(f, 40))) for gain in (hardware.ONE[f], hardware.TOP[f])]
         + [("window", (f, kind) + tuple(rows(f, 40))) for kind in (0, 1, 2, 3, 4294967295)]
         + [("window", (f, 0, []))]
+        + [("tone", (f, n, k)) for n in (0, 1, 12, 8193) for k in (0, 5, 4294967295)]
+        + [("turn", (f, way, row)) for way in (0, 1, 2, 4294967295) for row in transformed(f, 24)]
+        + [("half", (f, row)) for row in transformed(f, 15)]
+        + [("unhalf", (f, n, row)) for n in (14, 15) for row in transformed(f, 16)]
     )
 
 

@@ -29,6 +29,9 @@ METHODS = (
     "setdefault split splitlines startswith strip update upper values zfill bit_length"
 ).split()
 
+# Names that Python's own values have: a class of the package's own calls nothing like them.
+TAKEN = {name for kind in (str, int, list, dict, set, bytes, tuple) for name in dir(kind) if name[0] != "_"}
+
 WORDS = (
     r"\b(type|typing|typing_extensions|enum|Enum|IntEnum|StrEnum|Flag|IntFlag|Generic|Protocol|ABC|ABCMeta|namedtuple"
     r"|NamedTuple|TypedDict|TYPE_CHECKING|abstractmethod|register|mro|elements|open|input|version_info)\b"
@@ -51,6 +54,22 @@ def stored(tree):
     yield from (node.arg for node in ast.walk(tree) if isinstance(node, ast.arg))
     yield from (node.id for node in ast.walk(tree) if isinstance(node, ast.Name) and isinstance(node.ctx, ast.Store))
     yield from (node.name for node in ast.walk(tree) if isinstance(node, (ast.FunctionDef, ast.ClassDef)))
+
+
+def is_text(node):
+    return isinstance(node, ast.Expr) and isinstance(node.value, ast.Constant)
+
+
+def own_methods(tree):
+    for node in ast.walk(tree):
+        if isinstance(node, ast.ClassDef):
+            yield from (inner.name for inner in node.body if isinstance(inner, ast.FunctionDef))
+
+
+def own_values(tree):
+    for node in ast.walk(tree):
+        if isinstance(node, ast.Attribute) and isinstance(node.ctx, ast.Store):
+            yield node.attr
 
 
 class LanguageTest(unittest.TestCase):
@@ -110,12 +129,13 @@ class LanguageTest(unittest.TestCase):
     def test_names(self):
         """[L8, L12, L15, L25]"""
         own = dir(builtins)
+        attributes = METHODS + self.own_of_package(own_methods, own_values)
         for path, text, tree in self.each_file():
             top = list(bound_at_top(tree))
             self.assertEqual(sorted(top), sorted(set(top)), path.name)
             imported = [name.name for node in tree.body if isinstance(node, ast.ImportFrom) for name in node.names]
             for name in stored(tree):
-                self.assertRegex(name, r"^[A-Za-z][A-Za-z0-9_]*$")
+                self.assertRegex(name, r"^([A-Za-z][A-Za-z0-9_]*|__init__)$")
                 self.assertNotIn(name, own)
                 self.assertNotIn(name, imported)
             known = set(top) | set(stored(tree)) | set(OWN_NAMES)
@@ -123,7 +143,34 @@ class LanguageTest(unittest.TestCase):
                 if isinstance(node, ast.Name):
                     self.assertIn(node.id, known)
                 elif isinstance(node, ast.Attribute):
-                    self.assertIn(node.attr, METHODS)
+                    self.assertIn(node.attr, attributes)
+
+    def own_of_package(self, *kinds):
+        return [name for path, text, tree in self.each_file() for kind in kinds for name in kind(tree)]
+
+    def test_classes(self):
+        """[L5, L15, L18, L26, L28]"""
+        methods, values = self.own_of_package(own_methods), self.own_of_package(own_values)
+        self.assertFalse(set(methods) & set(values))
+        self.assertFalse((set(methods) | set(values)) & TAKEN)
+        for path, text, tree in self.each_file():
+            classes = [node for node in ast.walk(tree) if isinstance(node, ast.ClassDef)]
+            self.assertEqual(classes, [node for node in tree.body if isinstance(node, ast.ClassDef)])
+            for node in classes:
+                self.assertFalse(node.bases or node.keywords or node.decorator_list)
+                self.assertTrue(all(isinstance(inner, ast.FunctionDef) or is_text(inner) for inner in node.body))
+                names = [inner.name for inner in node.body if isinstance(inner, ast.FunctionDef)]
+                self.assertEqual(len(names), len(set(names)))
+                self.assertLessEqual({name for name in names if name[0] == "_"}, {"__init__"})
+            self.assert_called_alone(tree, [node.name for node in classes])
+
+    def assert_called_alone(self, tree, classes):
+        called = [id(node.func) for node in ast.walk(tree) if isinstance(node, ast.Call)]
+        for node in ast.walk(tree):
+            if isinstance(node, ast.Name) and node.id in classes:
+                self.assertIn(id(node), called)
+            elif isinstance(node, ast.Attribute) and isinstance(node.ctx, ast.Store):
+                self.assertEqual(node.value.id, "self")
 
     def test_imports(self):
         """[L2, L16]"""
@@ -153,6 +200,22 @@ class LanguageTest(unittest.TestCase):
             for module in free:
                 del left[module]
 
+    def test_walked_at_once(self):
+        """[L22, L23, L24]"""
+        for path, text, tree in self.each_file():
+            allowed = set()
+            for node in ast.walk(tree):
+                if isinstance(node, (ast.For, ast.comprehension)):
+                    allowed.add(id(node.iter))
+                elif isinstance(node, ast.Call) and isinstance(node.func, ast.Name):
+                    if node.func.id in ("list", "tuple", "dict", "sorted", "sum", "any", "all", "enumerate", "zip"):
+                        allowed.update(id(given) for given in node.args[:1])
+            for node in ast.walk(tree):
+                if isinstance(node, ast.Call) and isinstance(node.func, ast.Name):
+                    self.assertNotIn(node.func.id, ("set", "frozenset"))
+                    if node.func.id in ("zip", "enumerate", "reversed", "range"):
+                        self.assertIn(id(node), allowed, path.name)
+
     def test_tables_hold_what_stands_above_them(self):
         """[L3]"""
         for path, text, tree in self.each_file():
@@ -166,7 +229,7 @@ class LanguageTest(unittest.TestCase):
                             self.assertIn(inner.id, functions)
                         self.assertNotIsInstance(inner, (ast.Call, ast.BinOp))
                 else:
-                    self.assertIsInstance(node, (ast.Expr, ast.ImportFrom))
+                    self.assertIsInstance(node, (ast.Expr, ast.ImportFrom, ast.ClassDef))
 
 
 if __name__ == "__main__":

@@ -121,7 +121,7 @@ class DotTest(unittest.TestCase):
     def test_as_reckoned_apart(self):
         for f in (0, 1):
             for count in (0, 1, 2, 3, 4, 5, 6, 7, 8, 9, 31, 32, 33, 1000):
-                a, b = ordinary(f, count, 21), ordinary(f, count, 22)
+                a, b = hardware.ordinary(f, count, 21), hardware.ordinary(f, count, 22)
                 with self.subTest(f=f, count=count):
                     self.assertEqual(dot(f, a, b), reckoned.dot(f, a, b))
                     a, b = hardware.mixed(f, count, 23), hardware.mixed(f, count, 24)
@@ -130,14 +130,9 @@ class DotTest(unittest.TestCase):
     def test_the_longest_rows(self):
         for f in (0, 1):
             for count in (15999, 16000):
-                a, b = ordinary(f, count, 25), ordinary(f, count, 26)
+                a, b = hardware.ordinary(f, count, 25), hardware.ordinary(f, count, 26)
                 with self.subTest(f=f, count=count):
                     self.assertEqual(dot(f, a, b), reckoned.dot(f, a, b))
-
-
-def ordinary(f, count, seed):
-    """Numbers of both signs, near 1 in size, with all their places."""
-    return [hardware.near_one(f, bits, (bits >> 7) % 16) for bits in hardware.mixed(f, 4 * count, seed)[0::4]]
 
 
 class PeakTest(unittest.TestCase):
@@ -177,7 +172,7 @@ class PeakTest(unittest.TestCase):
 
     def test_long_rows(self):
         for f in (0, 1):
-            x = ordinary(f, 16000, 27)
+            x = hardware.ordinary(f, 16000, 27)
             sizes = [abs(number) for number in reckoned.numbers(f, x)]
             place = sizes.index(max(sizes))
             self.assertEqual(peak(f, x), [place, hardware.to_bits(f, sizes[place])])
@@ -219,7 +214,7 @@ class AwayTest(unittest.TestCase):
         for f in (0, 1):
             self.assertEqual(away(f, hardware.ONE[f], []), [0])
             x = hardware.mixed(f, 16000, 28)
-            for gain in ordinary(f, 2, 29) + [hardware.TOP[f]]:
+            for gain in hardware.ordinary(f, 2, 29) + [hardware.TOP[f]]:
                 want = hardware.each_row(f, 2, x, [gain] * len(x))
                 self.assertTrue(away(f, gain, x) == want)
 
