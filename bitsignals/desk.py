@@ -2,7 +2,10 @@
 
 from bitsignals.arithmetic import OF_ONE, OF_TWO, multiply
 from bitsignals.conversions import WAYS_TO_WHOLE, from_whole, narrowed, to_whole, widened
+from bitsignals.floats import told
 from bitsignals.pairs import OF_ONE_PAIR, OF_TWO_PAIRS
+from bitsignals.products import WAYS_AROUND, fits, product_around, product_of_rows
+from bitsignals.resampling import Stream, can_start
 from bitsignals.spectra import WAYS, from_half_spectrum, half_spectrum, in_pairs, one_after_another, turned
 from bitsignals.sums import greatest_size, sum_of_products
 from bitsignals.turns import multiples_of_part
@@ -98,3 +101,34 @@ def half(f, x):
 
 def unhalf(f, n, x):
     return [DONE] + from_half_spectrum(f, n, in_pairs(x))
+
+
+def around(f, op, a, b):
+    if op >= WAYS_AROUND:
+        return [REFUSED]
+    return [DONE] + product_around(f, op, a, b)
+
+
+def conv(f, n, a, b):
+    if not fits(n, a, b):
+        return [REFUSED]
+    return [DONE] + product_of_rows(f, n, a, b)
+
+
+def stream(up, down, most, taps, x, y, z):
+    if not can_start(up, down, taps):
+        return [REFUSED]
+    running = Stream(up, down, taps)
+    answer = [DONE]
+    for row in (x, y, z):
+        if running.due(row) > most:
+            answer.extend([REFUSED, 0])
+        else:
+            gone = running.push(row)
+            answer.extend([len(gone), len(gone)])
+            answer.extend(gone)
+    return answer
+
+
+def split(f, x):
+    return [DONE] + [told(f, a) for a in x[0::2]] + [told(f, a) for a in x[1::2]]

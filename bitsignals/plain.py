@@ -1,4 +1,4 @@
-"""The arithmetic of a transform on numbers as their bits: it takes every number."""
+"""Arithmetic on numbers as their bits: it takes every number."""
 
 from bitsignals.arithmetic import add, multiply, opposite, subtract
 from bitsignals.floats import told

@@ -1,36 +1,33 @@
-"""The arithmetic of a transform on numbers spread out: whole numbers, all on one scale.
+"""Arithmetic on numbers spread out: whole numbers, all on one scale.
 
-It answers the bits that the plain one does, sooner, but it takes tame numbers alone: finite ones, so far below
-the greatest that no sum of a transform grows beyond it. A number is counted in quarters of the least one above 0,
-so a number that is not 0 is at least 4. That leaves room for the signs of zeros: 0 is 1, and -0 is -1, which
-is too little to count beside any other number, and two zeros of one sign keep it.
+It answers the bits that the plain one does, sooner, but it takes finite numbers alone, and who uses it sees to it
+that no result grows beyond the greatest number and no factor beyond 2 to the 60. The least number above 0 is 2 to
+the 64 here. That leaves room for the signs of zeros: 0 is 1, and -0 is -1, which is too little to count beside any
+other number, even times a factor; and two zeros of one sign keep it when they are added. A factor that is 0 has
+no sign here, so it is for sums from 0 on alone: in these no zero's sign is left.
 """
 
 from bitsignals.floats import FRACTION_WIDTH, LEAST_POWER, SIGN_BIT, SIZE_BITS, parts, rounded
 
-# A transform's numbers are below this, 2 to the 100 or to the 1000, when it begins; 8192 of them can't add up beyond.
-TAME = (0x71800000, 0x7E70000000000000)
-# The last places of a factor: no cosine and no sine of 8192 parts of a turn or fewer has a place below.
-FACTOR_PLACES = 80
-# The quarters of the least number, as places.
-ROOM = 2
+# The places below the least number above 0.
+ROOM = 64
 
 
-def is_tame(f, row):
-    """Whether all parts of a row of pairs may be spread."""
-    tame = TAME[f]
-    bits = SIZE_BITS[f]
-    for x1, x2 in row:
-        if (x1 & bits) >= tame or (x2 & bits) >= tame:
+def all_below(f, row, limit):
+    """Whether all sizes of a row of numbers are below the limit's."""
+    for a in row:
+        if (a & SIZE_BITS[f]) >= limit:
             return False
     return True
 
 
 class Spread:
-    def __init__(self, f):
+    def __init__(self, f, factor_places):
+        """No factor has a place below 2 to the minus factor_places."""
         self.f = f
         self.places = ROOM - LEAST_POWER[f]
         self.width = FRACTION_WIDTH[f] + 1
+        self.factor_places = factor_places
 
     def taken(self, bits):
         size = bits & SIZE_BITS[self.f]
@@ -46,7 +43,7 @@ class Spread:
     def factor(self, bits):
         size = bits & SIZE_BITS[self.f]
         m, power = parts(self.f, size)
-        number = m << (power + FACTOR_PLACES)
+        number = m << (power + self.factor_places)
         return number if bits == size else -number
 
     def plus(self, a, b):
@@ -56,7 +53,7 @@ class Spread:
         return fitted(a - b, self.width, 0)
 
     def times(self, a, c):
-        return fitted(a * c, self.width, FACTOR_PLACES)
+        return fitted(a * c, self.width, self.factor_places)
 
     def minus(self, a):
         return -a

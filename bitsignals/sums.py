@@ -1,30 +1,28 @@
 """What a row comes to: sums of products, the greatest size."""
 
-from bitsignals.arithmetic import add, multiply
 from bitsignals.floats import INFINITY, SIZE_BITS
+from bitsignals.plain import Plain
 
 # How many products are added to one another before they are added to the sum, by format.
 GROUP = (4, 2)
 
 
 def sum_of_products(f, a, b):
-    products = [multiply(f, x, y) for x, y in zip(a, b)]
+    numbers = Plain(f)
+    products = [numbers.times(x, y) for x, y in zip(a, b)]
     while len(products) % GROUP[f] != 0:
         products.append(0)
-    return sum_by_groups(f, products)
+    return sum_by_groups(numbers, GROUP[f], products)
 
 
-def sum_by_groups(f, products):
-    """The sum from 0 on; there are as many products as fill the groups."""
-    total = 0
-    if f == 0:
-        for i in range(0, len(products), 4):
-            first = add(f, products[i], products[i + 1])
-            second = add(f, products[i + 2], products[i + 3])
-            total = add(f, total, add(f, first, second))
-    else:
-        for i in range(0, len(products), 2):
-            total = add(f, total, add(f, products[i], products[i + 1]))
+def sum_by_groups(numbers, group, products):
+    """The sum from 0 on, in groups of two or four; there are as many products as fill the groups."""
+    total = numbers.taken(0)
+    for i in range(0, len(products), group):
+        more = numbers.plus(products[i], products[i + 1])
+        if group == 4:
+            more = numbers.plus(more, numbers.plus(products[i + 2], products[i + 3]))
+        total = numbers.plus(total, more)
     return total
 
 

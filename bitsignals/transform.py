@@ -2,12 +2,22 @@
 
 from bitsignals.conversions import of_double
 from bitsignals.plain import Plain
-from bitsignals.spread import Spread, is_tame
+from bitsignals.spread import Spread, all_below
 from bitsignals.turns import cosine_and_sine, quarters_and_rest
+
+# 2 to the 100 and to the 1000: 8192 sizes below it can't add up beyond the greatest number.
+TAME = (0x71800000, 0x7E70000000000000)
+# No cosine and no sine of 8192 parts of a turn or fewer, but 0, is so small that it has a place below.
+PLACES = 80
+
+
+def arithmetic_for(f, row):
+    tame = all_below(f, [x1 for x1, x2 in row], TAME[f]) and all_below(f, [x2 for x1, x2 in row], TAME[f])
+    return Spread(f, PLACES) if tame else Plain(f)
 
 
 def transform(f, row):
-    numbers = Spread(f) if is_tame(f, row) else Plain(f)
+    numbers = arithmetic_for(f, row)
     n = len(row)
     table = [part_of_turn(numbers, f, n, j) for j in range(n)]
     # All rows that a level puts together, from the rows of one number up to the one of all.

@@ -35,11 +35,19 @@ def calls_of(f):
         + [("turn", (f, way, row)) for way in (0, 1, 2, 4294967295) for row in transformed(f, 24)]
         + [("half", (f, row)) for row in transformed(f, 15)]
         + [("unhalf", (f, n, row)) for n in (14, 15) for row in transformed(f, 16)]
+        + [("around", (f, op, row, row[::-1])) for op in (0, 1, 2, 4294967295) for row in transformed(f, 15)]
+        + [("conv", (f, n, row, row[:6])) for n in (1, 19, 20, 24) for row in transformed(f, 15)]
+        + [("conv", (f, 8192, [], [])), ("split", (f,) + tuple(rows(f, 40)))]
     )
 
 
 def calls():
     yield from [("wide", tuple(rows(0, 40))), ("narrow", tuple(rows(1, 40)))]
+    for up, down in ((3, 2), (1, 256), (0, 1), (1, 257)):
+        for most in (0, 5, 4294967295):
+            for row in transformed(0, 24):
+                yield "stream", (up, down, most, row[:7], row, row[:2], row[5:])
+    yield "stream", (1, 1, 1, [], [], [], [])
     yield from calls_of(0)
     yield from calls_of(1)
 

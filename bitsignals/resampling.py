@@ -1,0 +1,73 @@
+"""Streams of singles, resampled by up / down."""
+
+from bitsignals.plain import Plain
+from bitsignals.spread import Spread, all_below
+from bitsignals.sums import sum_by_groups
+
+SINGLE = 0
+# A sum's products are added in groups of so many.
+GROUP_OF_SINGLES = 4
+MOST_TAPS = 4096
+GREATEST_RATE = 256
+# 2 to the 50: 4096 products of two sizes below it can't add up beyond the greatest number.
+TAME_SINGLE = 0x58800000
+# No single has a place below 2 to the minus so many.
+SINGLE_PLACES = 149
+
+
+def can_start(up, down, taps):
+    return 1 <= up <= GREATEST_RATE and 1 <= down <= GREATEST_RATE and 1 <= len(taps) <= MOST_TAPS
+
+
+class Stream:
+    def __init__(self, up, down, taps):
+        self.up = up
+        self.down = down
+        self.phases = phases_of(up, taps)
+        self.tame_taps = all_below(SINGLE, taps, TAME_SINGLE)
+        # What came last, as many as a sum reaches back beyond its last number: zeros at first.
+        self.before = [0] * (len(self.phases[0]) - 1)
+        self.come_count = 0
+        self.gone_count = 0
+
+    def due(self, row):
+        """How many numbers go when the row comes."""
+        come = self.come_count + len(row)
+        # The least number gone that, times down, isn't below come times up.
+        return (come * self.up + self.down - 1) // self.down - self.gone_count
+
+    def push(self, row):
+        """The numbers that go when the row comes."""
+        line = self.before + row
+        numbers = self.arithmetic_for(line)
+        taken = [numbers.taken(a) for a in line]
+        phases = [[numbers.factor(tap) for tap in phase] for phase in self.phases]
+        gone = []
+        for i in range(self.gone_count, self.gone_count + self.due(row)):
+            last, phase = divmod(i * self.down, self.up)
+            gone.append(numbers.given(self.one_sum(numbers, phases[phase], taken, last - self.come_count)))
+        self.gone_count = self.gone_count + len(gone)
+        self.come_count = self.come_count + len(row)
+        self.before = line[len(row):]
+        return gone
+
+    def arithmetic_for(self, line):
+        tame = self.tame_taps and all_below(SINGLE, line, TAME_SINGLE)
+        return Spread(SINGLE, SINGLE_PLACES) if tame else Plain(SINGLE)
+
+    def one_sum(self, numbers, phase, line, start):
+        """The phase's taps by the numbers of the line from the last one on back."""
+        reach = line[start:start + len(phase)]
+        products = [numbers.times(a, tap) for a, tap in zip(reach[::-1], phase)]
+        return sum_by_groups(numbers, GROUP_OF_SINGLES, products)
+
+
+def phases_of(up, taps):
+    """For each f below up the taps f, f + up, f + 2 up ..., all filled with zeros to the same length."""
+    length = (len(taps) + up - 1) // up
+    length = (length + 3) // 4 * 4
+    phases = []
+    for f in range(up):
+        phase = taps[f::up]
+        phases.append(phase + [0] * (length - len(phase)))
+    return phases
