@@ -132,3 +132,10 @@ def stream(up, down, most, taps, x, y, z):
 
 def split(f, x):
     return [DONE] + [told(f, a) for a in x[0::2]] + [told(f, a) for a in x[1::2]]
+
+
+def join(f, a, b):
+    answer = [DONE]
+    for x, y in zip(a, b):
+        answer.extend([told(f, x), told(f, y)])
+    return answer

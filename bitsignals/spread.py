@@ -30,10 +30,11 @@ class Spread:
         self.factor_places = factor_places
 
     def taken(self, bits):
-        size = bits & SIZE_BITS[self.f]
-        m, power = parts(self.f, size)
-        number = m << (power + self.places) if size > 0 else 1
-        return number if bits == size else -number
+        if bits == 0:
+            return 1
+        if bits == SIGN_BIT[self.f]:
+            return -1
+        return counted(self.f, bits, self.places)
 
     def given(self, a):
         sign = SIGN_BIT[self.f] if a < 0 else 0
@@ -41,10 +42,7 @@ class Spread:
         return sign if size == 1 else rounded(self.f, sign, size, -self.places)
 
     def factor(self, bits):
-        size = bits & SIZE_BITS[self.f]
-        m, power = parts(self.f, size)
-        number = m << (power + self.factor_places)
-        return number if bits == size else -number
+        return counted(self.f, bits, self.factor_places)
 
     def plus(self, a, b):
         return fitted(a + b, self.width, 0)
@@ -57,6 +55,14 @@ class Spread:
 
     def minus(self, a):
         return -a
+
+
+def counted(f, bits, places):
+    """A finite number times 2 to the places, of which it has no more."""
+    size = bits & SIZE_BITS[f]
+    m, power = parts(f, size)
+    number = m << (power + places)
+    return number if bits == size else -number
 
 
 def fitted(a, width, places):

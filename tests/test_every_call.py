@@ -2,6 +2,7 @@
 
 import contextlib
 import copy
+import inspect
 import io
 import sys
 import unittest
@@ -38,6 +39,11 @@ def calls_of(f):
         + [("around", (f, op, row, row[::-1])) for op in (0, 1, 2, 4294967295) for row in transformed(f, 15)]
         + [("conv", (f, n, row, row[:6])) for n in (1, 19, 20, 24) for row in transformed(f, 15)]
         + [("conv", (f, 8192, [], [])), ("split", (f,) + tuple(rows(f, 40)))]
+        + [("join", (f,) + tuple(rows(f, 39, 2)))]
+        + [("each", (f, op) + tuple(rows(f, 39, 2))) for op in list(range(9)) + [4294967295]]
+        + [("one", (f, op) + tuple(rows(f, 40))) for op in list(range(10)) + [4294967295]]
+        + [("pair", (f, op) + tuple(rows(f, 40, 2))) for op in (0, 1, 2, 3, 4294967295)]
+        + [("look", (f, op) + tuple(rows(f, 40))) for op in (0, 1, 2, 4294967295)]
     )
 
 
@@ -60,7 +66,36 @@ def untouched(given):
     return tuple(Untouched(part) if isinstance(part, list) else part for part in given)
 
 
+# The interface: every call with its arguments.
+INTERFACE = {
+    "each": ["f", "op", "a", "b"], "one": ["f", "op", "a"], "pair": ["f", "op", "a", "b"], "look": ["f", "op", "x"],
+    "wide": ["x"], "narrow": ["x"], "whole": ["f", "how", "x"], "from_of": ["f", "x"], "dot": ["f", "a", "b"],
+    "peak": ["f", "x"], "away": ["f", "gain", "x"], "window": ["f", "kind", "x"], "tone": ["f", "n", "k"],
+    "turn": ["f", "way", "x"], "half": ["f", "x"], "unhalf": ["f", "n", "x"], "around": ["f", "op", "a", "b"],
+    "conv": ["f", "n", "a", "b"], "stream": ["up", "down", "most", "taps", "x", "y", "z"], "split": ["f", "x"],
+    "join": ["f", "a", "b"],
+}
+
+
 class EveryCallTest(unittest.TestCase):
+    def test_the_interface(self):
+        for name, arguments in INTERFACE.items():
+            with self.subTest(call=name):
+                self.assertEqual(list(inspect.signature(getattr(desk, name)).parameters), arguments)
+        self.assertEqual({name for name, given in calls()}, set(INTERFACE))
+
+    def test_arguments_may_be_named(self):
+        for name, given in calls():
+            with self.subTest(call=name, given=given[:2]):
+                named = dict(zip(INTERFACE[name], given, strict=True))
+                self.assertEqual(getattr(desk, name)(**named), answer_of(name, given))
+
+    def test_calls_do_not_reach_one_another(self):
+        # In one order and in the other: whenever one is called, it is as if for the first time.
+        there = [answer_of(name, given) for name, given in calls()]
+        back = [answer_of(name, given) for name, given in reversed(list(calls()))]
+        self.assertEqual(there, back[::-1])
+
     def test_what_is_handed_in_stays(self):
         for name, given in calls():
             handed = untouched(given)
