@@ -20,6 +20,8 @@ def can_start(up, down, taps):
 
 
 class Stream:
+    """What has come and gone so far. The i-th that goes is due behind the number i down / up, without its rest."""
+
     def __init__(self, up, down, taps):
         self.up = up
         self.down = down
@@ -41,11 +43,11 @@ class Stream:
         line = self.before + row
         numbers = self.arithmetic_for(line)
         taken = [numbers.taken(a) for a in line]
-        phases = [[numbers.factor(tap) for tap in phase] for phase in self.phases]
+        factors = [factors_of(numbers, phase) for phase in self.phases]
         gone = []
         for i in range(self.gone_count, self.gone_count + self.due(row)):
-            last, phase = divmod(i * self.down, self.up)
-            gone.append(numbers.given(self.one_sum(numbers, phases[phase], taken, last - self.come_count)))
+            last, f = divmod(i * self.down, self.up)
+            gone.append(numbers.given(one_sum(numbers, factors[f], taken, last - self.come_count)))
         self.gone_count = self.gone_count + len(gone)
         self.come_count = self.come_count + len(row)
         self.before = line[len(row):]
@@ -55,11 +57,16 @@ class Stream:
         tame = self.tame_taps and all_below(SINGLE, line, TAME_SINGLE)
         return Spread(SINGLE, SINGLE_PLACES) if tame else Plain(SINGLE)
 
-    def one_sum(self, numbers, phase, line, start):
-        """The phase's taps by the numbers of the line from the last one on back."""
-        reach = line[start:start + len(phase)]
-        products = [numbers.times(a, tap) for a, tap in zip(reach[::-1], phase)]
-        return sum_by_groups(numbers, GROUP_OF_SINGLES, products)
+
+def factors_of(numbers, phase):
+    return [numbers.factor(tap) for tap in phase]
+
+
+def one_sum(numbers, factors, line, start):
+    """The sum of the factors' products with the numbers of the line, as many from start on, the last one first."""
+    reach = line[start:start + len(factors)]
+    products = [numbers.times(a, factor) for a, factor in zip(reach[::-1], factors)]
+    return sum_by_groups(numbers, GROUP_OF_SINGLES, products)
 
 
 def phases_of(up, taps):
